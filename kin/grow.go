@@ -2,6 +2,7 @@ package kin
 
 import (
 	"reglet/api"
+	"reglet/copies"
 	"reglet/desc"
 )
 
@@ -17,7 +18,7 @@ func (t *Tree) enter(l []api.Class) bool {
 			return false
 		}
 		t.names = append(t.names, c.Name)
-		t.classes[c.Name] = copyClass(c)
+		t.classes[c.Name] = copies.Class(c)
 	}
 	return true
 }
