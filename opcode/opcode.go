@@ -47,6 +47,12 @@ const (
 const (
 	FirstComputes = 96
 	LastComputes  = 148
+
+	Sum          = 96 // of two ints
+	QuotientInt  = 108
+	QuotientLong = 109
+	RestInt      = 112
+	RestLong     = 113
 )
 
 // What leads.
