@@ -1,0 +1,105 @@
+package carry
+
+import (
+	"slices"
+
+	"reglet/api"
+	"reglet/flow"
+	"reglet/ins"
+	"reglet/spread"
+)
+
+// together is how many pairs are looked at together: those of a word, a bit each.
+const together = 64
+
+// bit is a pair's among those from first on; 0, if it is none of them: a number below first is one of many bits without its sign.
+func bit(k, first int) uint64 { return 1 << uint64(k-first) }
+
+// A pair is what an OpMove makes: a register is a copy of another one, as long as neither is written.
+type pair struct{ copy, source int }
+
+// none is the number of no pair, and of no stretch.
+const none = -1
+
+// A web is a well formed function as pairs get lost in it: from where one isn't made yet, or one of its registers is written, on to wherever one goes.
+type web struct {
+	pairs []pair
+	// The pair that each place makes, and the register that it writes.
+	makes, defs []int
+	// The places that can be reached, the last one first, and those that follow each place.
+	reached []int
+	next    [][]int
+	// The stretch of each place that throws, and where what is thrown in each stretch is caught.
+	stretch []int
+	caught  [][]int
+}
+
+func webOf(f api.Func) web {
+	n := len(f.Code)
+	w := web{makes: make([]int, n), defs: make([]int, n), next: make([][]int, n), stretch: make([]int, n)}
+	reach := flow.Reach(f)
+	numbers := map[pair]int{}
+	for i, x := range f.Code {
+		w.makes[i], w.defs[i], w.next[i], w.stretch[i] = none, ins.Def(x), flow.Next(f, i), none
+		if x.Op == api.OpMove && x.Dst != x.A {
+			w.makes[i] = w.number(pair{x.Dst, x.A}, numbers)
+		}
+		if reach[i] {
+			w.reached = append(w.reached, i)
+		}
+	}
+	slices.Reverse(w.reached)
+	for s, places := range spread.Throwing(f) {
+		for _, i := range places {
+			w.stretch[i] = s
+		}
+		w.caught = append(w.caught, flow.Caught(f, places[0]))
+	}
+	return w
+}
+
+// number is that of a pair, which gets the next one, if it has none.
+func (w *web) number(p pair, numbers map[pair]int) int {
+	k, is := numbers[p]
+	if !is {
+		k = len(w.pairs)
+		numbers[p] = k
+		w.pairs = append(w.pairs, p)
+	}
+	return k
+}
+
+// lost tells for each place which of the pairs that stand together from first on may not hold ahead of it.
+func (w *web) lost(first int) []uint64 {
+	touched := w.touched(first)
+	lost, thrown := make([]uint64, len(w.next)), make([]uint64, len(w.caught))
+	// At the beginning nothing is a copy. Each place is done, whatever comes to it: it may be the first one to write a pair's register.
+	lost[0] = ^uint64(0)
+	spread.Marks(lost, w.reached, func(i int, bring func(to int, more uint64)) {
+		behind := (lost[i] | touched[w.defs[i]]) &^ bit(w.makes[i], first)
+		for _, to := range w.next[i] {
+			bring(to, behind)
+		}
+		s := w.stretch[i]
+		if s == none || lost[i]&^thrown[s] == 0 {
+			return
+		}
+		// What throws doesn't write.
+		thrown[s] |= lost[i]
+		for _, at := range w.caught[s] {
+			bring(at, lost[i])
+		}
+	})
+	return lost
+}
+
+// touched are, of each register, the pairs from first on that are lost where it is written.
+func (w *web) touched(first int) map[int]uint64 {
+	touched := map[int]uint64{}
+	for k := first; k < min(first+together, len(w.pairs)); k++ {
+		for _, r := range [...]int{w.pairs[k].copy, w.pairs[k].source} {
+			touched[r] |= bit(k, first)
+		}
+	}
+	return touched
+}
