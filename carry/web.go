@@ -18,7 +18,7 @@ func bit(k, first int) uint64 { return 1 << uint64(k-first) }
 // A pair is what an OpMove makes: a register is a copy of another one, as long as neither is written.
 type pair struct{ copy, source int }
 
-// none is the number of no pair, and of no stretch.
+// none is the number of no pair.
 const none = -1
 
 // A web is a well formed function as pairs get lost in it: from where one isn't made yet, or one of its registers is written, on to wherever one goes.
@@ -26,21 +26,18 @@ type web struct {
 	pairs []pair
 	// The pair that each place makes, and the register that it writes.
 	makes, defs []int
-	// The places that can be reached, the last one first, and those that follow each place.
+	// The places that can be reached, the last one first.
 	reached []int
-	next    [][]int
-	// The stretch of each place that throws, and where what is thrown in each stretch is caught.
-	stretch []int
-	caught  [][]int
+	ways    spread.Ways
 }
 
 func webOf(f api.Func) web {
 	n := len(f.Code)
-	w := web{makes: make([]int, n), defs: make([]int, n), next: make([][]int, n), stretch: make([]int, n)}
+	w := web{makes: make([]int, n), defs: make([]int, n), ways: spread.WaysOf(f)}
 	reach := flow.Reach(f)
 	numbers := map[pair]int{}
 	for i, x := range f.Code {
-		w.makes[i], w.defs[i], w.next[i], w.stretch[i] = none, ins.Def(x), flow.Next(f, i), none
+		w.makes[i], w.defs[i] = none, ins.Def(x)
 		if x.Op == api.OpMove && x.Dst != x.A {
 			w.makes[i] = w.number(pair{x.Dst, x.A}, numbers)
 		}
@@ -49,12 +46,6 @@ func webOf(f api.Func) web {
 		}
 	}
 	slices.Reverse(w.reached)
-	for s, places := range spread.Throwing(f) {
-		for _, i := range places {
-			w.stretch[i] = s
-		}
-		w.caught = append(w.caught, flow.Caught(f, places[0]))
-	}
 	return w
 }
 
@@ -72,21 +63,21 @@ func (w *web) number(p pair, numbers map[pair]int) int {
 // lost tells for each place which of the pairs that stand together from first on may not hold ahead of it.
 func (w *web) lost(first int) []uint64 {
 	touched := w.touched(first)
-	lost, thrown := make([]uint64, len(w.next)), make([]uint64, len(w.caught))
+	lost, thrown := make([]uint64, len(w.defs)), make([]uint64, len(w.ways.Caught))
 	// At the beginning nothing is a copy. Each place is done, whatever comes to it: it may be the first one to write a pair's register.
 	lost[0] = ^uint64(0)
 	spread.Marks(lost, w.reached, func(i int, bring func(to int, more uint64)) {
 		behind := (lost[i] | touched[w.defs[i]]) &^ bit(w.makes[i], first)
-		for _, to := range w.next[i] {
+		for _, to := range w.ways.Next[i] {
 			bring(to, behind)
 		}
-		s := w.stretch[i]
-		if s == none || lost[i]&^thrown[s] == 0 {
+		s := w.ways.Stretch[i]
+		if s == spread.None || lost[i]&^thrown[s] == 0 {
 			return
 		}
 		// What throws doesn't write.
 		thrown[s] |= lost[i]
-		for _, at := range w.caught[s] {
+		for _, at := range w.ways.Caught[s] {
 			bring(at, lost[i])
 		}
 	})

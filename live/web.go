@@ -2,7 +2,6 @@ package live
 
 import (
 	"reglet/api"
-	"reglet/flow"
 	"reglet/ins"
 	"reglet/spread"
 )
@@ -12,30 +11,14 @@ type web struct {
 	// What each place reads, and writes.
 	uses [][]int
 	defs []int
-	// The places that follow each place, and those that it follows.
-	next, prior [][]int
-	// The places that throw, stretch by stretch. A row is about all places of a stretch or about none, so that what they throw is caught at the same places.
-	throwing [][]int
-	// For each place the stretches of which something may be caught there.
-	catches [][]int
+	ways spread.Ways
 }
 
 func webOf(f api.Func) web {
 	n := len(f.Code)
-	w := web{
-		uses: make([][]int, n), defs: make([]int, n), next: make([][]int, n), prior: make([][]int, n),
-		throwing: spread.Throwing(f), catches: make([][]int, n),
-	}
+	w := web{uses: make([][]int, n), defs: make([]int, n), ways: spread.WaysOf(f)}
 	for i, x := range f.Code {
-		w.uses[i], w.defs[i], w.next[i] = ins.Uses(x), ins.Def(x), flow.Next(f, i)
-		for _, to := range w.next[i] {
-			w.prior[to] = append(w.prior[to], i)
-		}
-	}
-	for stretch, places := range w.throwing {
-		for _, at := range flow.Caught(f, places[0]) {
-			w.catches[at] = append(w.catches[at], stretch)
-		}
+		w.uses[i], w.defs[i] = ins.Uses(x), ins.Def(x)
 	}
 	return w
 }
@@ -43,7 +26,7 @@ func webOf(f api.Func) web {
 // ahead tells for each place which of the registers that stand together from first on are live ahead of it.
 func (w web) ahead(first int) []set {
 	live, written := make([]set, len(w.uses)), make([]set, len(w.uses))
-	thrown := make([]set, len(w.throwing))
+	thrown := make([]set, len(w.ways.Throwing))
 	// The last place is done first, so that code without circles is gone through about once.
 	var todo []int
 	for i := range w.uses {
@@ -53,15 +36,15 @@ func (w web) ahead(first int) []set {
 		}
 	}
 	spread.Marks(live, todo, func(i int, bring func(to int, more set)) {
-		for _, from := range w.prior[i] {
+		for _, from := range w.ways.Prior[i] {
 			bring(from, live[i].without(written[from]))
 		}
-		for _, stretch := range w.catches[i] {
+		for _, stretch := range w.ways.Catches[i] {
 			if live[i].without(thrown[stretch]) == 0 {
 				continue
 			}
 			thrown[stretch] |= live[i]
-			for _, from := range w.throwing[stretch] {
+			for _, from := range w.ways.Throwing[stretch] {
 				bring(from, live[i])
 			}
 		}

@@ -1,12 +1,7 @@
-// Package spread is for the layers that ask what may hold at the places of a function on any of its ways: marks, bits of a word, go from place to place until none of them is new.
+// Package spread is for the layers that ask what may hold at the places of a function on any of its ways: these are told there and back, and marks, bits of a word, go from place to place until none of them is new.
 package spread
 
-import (
-	"slices"
-
-	"reglet/api"
-	"reglet/ins"
-)
+import "slices"
 
 // Marks adds to the marks of each place what other places bring to it. The places of todo are done first, the last of them ahead of all others, and any place again when something new was brought to it; do brings what lies at a place to where it goes.
 func Marks[S ~uint64](marks []S, todo []int, do func(i int, bring func(to int, more S))) {
@@ -31,27 +26,4 @@ func Marks[S ~uint64](marks []S, todo []int, do func(i int, bring func(to int, m
 		waits[i] = false
 		do(i, bring)
 	}
-}
-
-// Throwing are the places of a well formed function that throw, stretch by stretch: a row is about all places of a stretch or about none, so that what they throw is caught at the same places. Stretches without such places are left out.
-func Throwing(f api.Func) [][]int {
-	isCut := make([]bool, len(f.Code)+1)
-	for _, r := range f.Rows {
-		isCut[r.From], isCut[r.To] = true, true
-	}
-	var stretches [][]int
-	begins := true
-	for i, x := range f.Code {
-		begins = begins || isCut[i]
-		if !ins.Throws(x) {
-			continue
-		}
-		if begins {
-			stretches = append(stretches, nil)
-			begins = false
-		}
-		last := len(stretches) - 1
-		stretches[last] = append(stretches[last], i)
-	}
-	return stretches
 }

@@ -5,9 +5,6 @@ import (
 	"slices"
 	"testing"
 
-	"reglet/api"
-	"reglet/flow"
-	"reglet/ins"
 	"reglet/spread"
 )
 
@@ -107,59 +104,4 @@ func TestOrder(t *testing.T) {
 		t.Errorf("the room behind the places is %v now", behind)
 	}
 	spread.Marks([]uint64{1}, nil, func(int, func(int, uint64)) { t.Error("a place is done that nobody named") })
-}
-
-// randomFunc has checks and other things, and rows about some of them. It isn't well formed in all else.
-func randomFunc(r *rand.Rand) api.Func {
-	f := api.Func{Code: make([]api.Ins, 1+r.Intn(10))}
-	for i := range f.Code {
-		f.Code[i].Op = []int{8, 23, 31, 1, 27, 33}[r.Intn(6)]
-	}
-	for range r.Intn(5) {
-		from := r.Intn(len(f.Code))
-		f.Rows = append(f.Rows, api.Row{From: from, To: from + 1 + r.Intn(len(f.Code)-from), At: r.Intn(len(f.Code)), Class: []string{"", "a"}[r.Intn(2)]})
-	}
-	return f
-}
-
-// TestThrowing: each place that throws lies in one stretch, in order, with just those about which the same rows are.
-func TestThrowing(t *testing.T) {
-	r := rand.New(rand.NewSource(2))
-	lengths := map[int]int{}
-	for range 3000 {
-		f := randomFunc(r)
-		var want []int
-		for i, x := range f.Code {
-			if ins.Throws(x) {
-				want = append(want, i)
-			}
-		}
-		stretches := spread.Throwing(f)
-		if got := slices.Concat(stretches...); !slices.Equal(got, want) {
-			t.Fatalf("%+v: %v throw, but %v do", f, stretches, want)
-		}
-		for _, places := range stretches {
-			lengths[len(places)]++
-			for _, i := range places {
-				if !slices.Equal(flow.Caught(f, i), flow.Caught(f, places[0])) {
-					t.Fatalf("%+v: what %d throws is caught elsewhere than what %d does", f, i, places[0])
-				}
-				for _, row := range f.Rows {
-					if (row.From <= i && i < row.To) != (row.From <= places[0] && places[0] < row.To) {
-						t.Fatalf("%+v: %+v is about one of %v alone", f, row, places)
-					}
-				}
-			}
-		}
-	}
-	if lengths[0] > 0 || lengths[1] < 100 || lengths[2] < 100 || lengths[3] < 100 {
-		t.Errorf("%v", lengths)
-	}
-	// No more stretches than there must be.
-	if got := spread.Throwing(api.Func{Code: slices.Repeat([]api.Ins{{Op: 8}}, 5), Rows: []api.Row{{From: 1, To: 3}, {From: 1, To: 5}}}); len(got) != 3 {
-		t.Errorf("%v", got)
-	}
-	if got := spread.Throwing(api.Func{}); len(got) != 0 {
-		t.Errorf("of nothing: %v", got)
-	}
 }
